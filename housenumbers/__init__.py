@@ -1,0 +1,1 @@
+"""A town's house numbers: streets, houses and their plates."""

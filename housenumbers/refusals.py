@@ -1,0 +1,10 @@
+"""The numbers that a refused call answers."""
+
+NO_SUCH = -2
+WITHOUT_PLATE = -6
+NOT_BEGUN = -11
+SO_ALREADY = -17
+OUT_OF_RANGE = -22
+TOO_MANY = -28
+NO_FIT = -33
+WRONG_SIDE = -71
