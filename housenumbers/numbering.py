@@ -2,7 +2,7 @@
 
 from housenumbers.plates import NO_PLATE, is_of_side, is_plate, least_number
 from housenumbers.records import find_house, find_street, houses_in_order, plated_in_order
-from housenumbers.refusals import NO_FIT, NO_SUCH, OUT_OF_RANGE, SO_ALREADY, WITHOUT_PLATE, WRONG_SIDE
+from housenumbers.refusals import NO_SUCH, NONE_FOUND, OUT_OF_RANGE, SO_ALREADY, WITHOUT_PLATE, WRONG_SIDE
 
 
 def exchange_plate(house, plate):
@@ -68,7 +68,7 @@ def plate_between(town, h):
         if is_plate(plate[0], plate[1]) and fits_ahead(plate, before, behind):
             house.plate = plate
             return [0, plate[0], plate[1]]
-    return [NO_FIT]
+    return [NONE_FOUND]
 
 
 def plates_to_try(side, before):

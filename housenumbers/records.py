@@ -14,11 +14,12 @@ class Town:
 
 
 class Street:
-    """A street; its number is its place in the town's list."""
+    """A street; once joined to another one it keeps its place in the town's list but is gone."""
 
     def __init__(self, name, metres):
         self.name = name
         self.metres = metres
+        self.gone = False
 
 
 class House:
@@ -34,8 +35,8 @@ class House:
 
 
 def find_street(town, s):
-    """The street of that number, or None."""
-    if s < len(town.streets):
+    """The street of that number if it is still one, or None."""
+    if s < len(town.streets) and not town.streets[s].gone:
         return town.streets[s]
     return None
 
@@ -47,15 +48,28 @@ def find_house(town, h):
     return None
 
 
+def number_of_named(town, n):
+    """The number of the street that has that name now, or None; a name given up is nobody's."""
+    for s, street in enumerate(town.streets):
+        if street.name == n and not street.gone:
+            return s
+    return None
+
+
 def is_name_used(town, n):
     """Whether a street has that name now; a name given up is free again."""
-    return any([street.name == n for street in town.streets])
+    return number_of_named(town, n) is not None
 
 
 def houses_in_order(town, s, d):
     """The houses that stand on one side of a street, by their metres."""
     there = [house for house in town.houses if house.stands and house.street == s and house.side == d]
     return sorted(there, key=lambda house: house.metre)
+
+
+def houses_of_street(town, s):
+    """The houses that stand on a street: those of the odd side, in order, then those of the even one."""
+    return houses_in_order(town, s, 0) + houses_in_order(town, s, 1)
 
 
 def plated_in_order(town, s, d):

@@ -5,10 +5,12 @@ from housenumbers.mending import check_right, count_fewest, list_order, mend_sid
 from housenumbers.numbering import number_anew, plate_between, put_plate, take_plate
 from housenumbers.records import Town
 from housenumbers.refusals import NOT_BEGUN
+from housenumbers.reshaping import cut_street, join_streets
+from housenumbers.searching import find_closest, find_next, find_opposite, find_plate, measure_walk
+from housenumbers.telling import count_houses, least_free, list_bare, list_streets, look_at, tell_state
 
 BEGIN = 0
-# How many whole numbers stand behind each call's own, for all calls of the document:
-# those that are not built yet are refused like all others before a begin.
+# How many whole numbers stand behind each call's own.
 ARGUMENT_COUNTS = (0, 2, 2, 3, 1, 3, 1, 1, 1, 2, 1, 2, 2, 3, 1, 1, 2, 2, 2, 3, 1, 2, 0, 1, 1, 0)
 
 
@@ -30,10 +32,7 @@ def answer_call(town, call, given):
     """What one call answers: a number, and what is told besides."""
     if call != BEGIN and not town.begun:
         return [NOT_BEGUN]
-    makers = call_makers()
-    if call >= len(makers):
-        raise NotImplementedError(f"call {call} is not built yet")
-    return make_call(makers[call], town, given)
+    return make_call(call_makers()[call], town, given)
 
 
 def call_makers():
@@ -52,6 +51,19 @@ def call_makers():
         check_right,
         count_fewest,
         mend_side,
+        find_plate,
+        find_opposite,
+        find_next,
+        find_closest,
+        measure_walk,
+        join_streets,
+        cut_street,
+        count_houses,
+        least_free,
+        list_streets,
+        look_at,
+        list_bare,
+        tell_state,
     )
 
 

@@ -1,4 +1,6 @@
-"""Calls written by name for the tests, and their answers one by one."""
+"""Calls written by name for the tests, their answers one by one, and all that is seen behind them."""
+
+from collections import namedtuple
 
 from housenumbers.town import answers
 
@@ -8,8 +10,12 @@ NAMES = (
 ).split()
 NUMBERS = {name: number for number, name in enumerate(NAMES)}
 ARGUMENTS = dict(zip(NAMES, (0, 2, 2, 3, 1, 3, 1, 1, 1, 2, 1, 2, 2, 3, 1, 1, 2, 2, 2, 3, 1, 2, 0, 1, 1, 0)))
-# The calls of points 1 to 5, which are there.
-BUILT = NAMES[:13]
+# Those that tell and leave everything as it is.
+TELLING = "order right fewest find opposite next closest walk count free streets look bare state".split()
+# How long a list of calls may be, and how many houses there may ever be.
+MOST_CALLS = 400
+MOST_NUMBERS = 2000
+MOST_HOUSES = 40
 ODD = 0
 EVEN = 1
 MOST = 4294967295
@@ -25,6 +31,8 @@ def written(calls):
             raise AssertionError(f"not a call: {call}")
         flat.append(NUMBERS[call[0]])
         flat.extend(call[1:])
+    if len(calls) > MOST_CALLS or len(flat) > MOST_NUMBERS:
+        raise AssertionError(f"such a list is never handed in: {len(calls)} calls, {len(flat)} numbers")
     return flat
 
 
@@ -64,14 +72,14 @@ def one_street(metres=2000):
     return [("begin",), ("street", 1, metres)]
 
 
-def side_with(plates, side=ODD, first=0):
-    """One street with a side whose houses, by their metres, have these plates (None: without one).
+def side_with(plates, side=ODD, first=0, street=0):
+    """A street's side with houses that, by their metres, have these plates (None: without one).
 
     The houses are numbered from first on, in order.
     """
     calls = []
     for place, plate in enumerate(plates):
-        calls.append(("house", 0, side, 10 * place + 5))
+        calls.append(("house", street, side, 10 * place + 5))
         if plate is not None:
             calls.append(("plate", first + place, plate[0], plate[1]))
     return calls
@@ -81,6 +89,22 @@ def plates_after(calls, houses):
     """The plates that these houses have behind these calls, told as they are pulled down."""
     told = tail(calls, [("pull", house) for house in houses])
     return [tuple(answer[1:]) if answer[0] == 0 else None for answer in told]
+
+
+# streets: of each that there ever was (name, metres); ever: how many houses there ever were;
+# houses: of each that there is (street, side, metre, plate's number, letter).
+View = namedtuple("View", "streets ever houses")
+
+
+def seen(calls):
+    """All that streets, state and a look at every house tell behind these calls."""
+    told = tail(calls, [("streets",), ("state",)] + [("look", house) for house in range(MOST_HOUSES)])
+    streets = list(zip(told[0][1::2], told[0][2::2]))
+    houses = {house: tuple(answer) for house, answer in enumerate(told[2:]) if answer != [-2]}
+    there = len([1 for name, metres in streets if name != 0])
+    if told[0][0] != there or told[1] != [len(streets), told[1][1], len(houses)]:
+        raise AssertionError(f"streets, state and look do not agree: {told}")
+    return View(streets, told[1][1], houses)
 
 
 def rank(plate):

@@ -2,7 +2,7 @@
 
 import unittest
 
-from tests.helper import ARGUMENTS, BUILT, EVEN, MOST, NAMES, ODD, last, one_street, run, side_with, tail
+from tests.helper import ARGUMENTS, EVEN, MOST, NAMES, ODD, last, one_street, run, side_with, tail
 
 
 class BeforeBegin(unittest.TestCase):
@@ -18,7 +18,7 @@ class BeforeBegin(unittest.TestCase):
         self.assertEqual(told, [[-11], [0], [-2], [0]])
 
     def test_after_begin_none_is_refused_so(self):
-        for name in BUILT[1:]:
+        for name in NAMES[1:]:
             with self.subTest(name=name):
                 self.assertNotEqual(last([("begin",), (name,) + (0,) * ARGUMENTS[name]]), [-11])
 
@@ -31,6 +31,11 @@ class NoneSuchComesFirst(unittest.TestCase):
             ("rename", 1, 0), ("rename", 1, 1), ("rename", MOST, MOST), ("house", 1, 2, 5000), ("house", 1, 0, 5),
             ("house", MOST, MOST, MOST), ("anew", 1), ("anew", MOST), ("order", 1, 2), ("order", 1, 0),
             ("right", 1), ("right", MOST), ("fewest", 1, 2), ("fewest", MOST, 0), ("mend", 1, 2), ("mend", MOST, 0),
+            ("find", 2, 1, 0), ("find", 2, 0, 27), ("find", 0, 1, 0), ("find", 1000, 1, 0), ("find", MOST, MOST, MOST),
+            ("closest", 1, 5), ("closest", 1, 100), ("closest", MOST, MOST), ("join", 0, 1), ("join", 1, 0),
+            ("join", 1, 1), ("join", MOST, MOST), ("cut", 1, 5, 2), ("cut", 1, 0, 0), ("cut", 1, 5, 1),
+            ("cut", MOST, MOST, MOST), ("count", 1), ("count", MOST), ("free", 1, 0), ("free", 1, 2), ("free", MOST, MOST),
+            ("bare", 1), ("bare", MOST),
         ):
             with self.subTest(call=call):
                 self.assertEqual(last(one_street(100) + [("house", 0, 0, 5), call]), [-2])
@@ -39,14 +44,19 @@ class NoneSuchComesFirst(unittest.TestCase):
         for call in (
             ("pull", 1), ("pull", MOST), ("plate", 1, 0, 0), ("plate", 1, 1, 27), ("plate", 1, 2, 0),
             ("plate", 1, 1, 0), ("plate", MOST, MOST, MOST), ("unplate", 1), ("between", 1), ("between", MOST),
+            ("opposite", 1), ("opposite", MOST), ("next", 1), ("next", MOST), ("walk", 0, 1), ("walk", 1, 0),
+            ("walk", 1, 1), ("walk", 0, MOST), ("walk", MOST, MOST), ("look", 1), ("look", MOST),
         ):
             with self.subTest(call=call):
                 self.assertEqual(last(one_street() + [("house", 0, 0, 5), ("plate", 0, 1, 0), call]), [-2])
 
     def test_a_house_pulled_down_is_none_any_more(self):
         calls = one_street() + [("house", 0, 0, 5), ("plate", 0, 1, 0), ("pull", 0)]
-        further = [("pull", 0), ("plate", 0, 3, 0), ("plate", 0, 0, 99), ("unplate", 0), ("between", 0)]
-        self.assertEqual(tail(calls, further), [[-2]] * 5)
+        further = [
+            ("pull", 0), ("plate", 0, 3, 0), ("plate", 0, 0, 99), ("unplate", 0), ("between", 0), ("opposite", 0),
+            ("next", 0), ("walk", 0, 0), ("look", 0),
+        ]
+        self.assertEqual(tail(calls, further), [[-2]] * len(further))
 
 
 class Begin(unittest.TestCase):
@@ -60,6 +70,24 @@ class Begin(unittest.TestCase):
             ("order", 0, 0), ("pull", 0), ("street", 1, 20), ("house", 0, 0, 5), ("house", 0, 0, 20), ("order", 0, 0),
         ])
         self.assertEqual(told, [[-2], [-2], [0], [0], [-22], [1, 0]])
+
+    def test_begun_anew_every_call_answers_as_if_for_the_first_time(self):
+        before = one_street() + [("street", 2, 50)] + side_with([(1, 0), None]) + [("cut", 0, 9, 3), ("join", 1, 2)]
+        again = [("begin",), ("street", 1, 100), ("street", 2, 50), ("house", 0, 0, 5), ("house", 0, 1, 7)]
+        for ahead in ([("begin",)], again):
+            for name in NAMES:
+                for number in (0, 1, 2, 7, MOST):
+                    further = ahead + [(name,) + (number,) * ARGUMENTS[name], ("streets",), ("state",), ("count", 0)]
+                    with self.subTest(name=name, number=number):
+                        self.assertEqual(tail(before, further), run(further))
+
+    def test_begun_anew_nothing_is_told_any_more(self):
+        before = one_street() + side_with([(1, 0), None]) + [("begin",)]
+        further = [
+            ("streets",), ("state",), ("look", 0), ("find", 1, 1, 0), ("opposite", 0), ("next", 0), ("closest", 0, 5),
+            ("walk", 0, 1), ("join", 0, 0), ("cut", 0, 5, 2), ("count", 0), ("free", 0, 0), ("bare", 0),
+        ]
+        self.assertEqual(tail(before, further), [[0], [0, 0, 0]] + [[-2]] * 11)
 
     def test_begun_anew_40_houses_may_be_built_again(self):
         forty = [("begin",), ("street", 1, 50), ("street", 2, 50)]
